@@ -1,0 +1,1 @@
+"""Anymend: stores that are mended for ever."""

@@ -1,0 +1,59 @@
+"""The interface, and the plainest rules for the files of the package."""
+
+import ast
+import importlib
+import os
+import unittest
+
+HERE = os.path.dirname(os.path.abspath(__file__))
+PACKAGE = os.path.join(os.path.dirname(HERE), "anymend")
+
+INTERFACE = {
+    "errors": (
+        "MendError", "BadText", "BadNumber", "BadName", "BadLot", "NoName", "TakenName", "TooSmall", "TooMany",
+        "NotKept", "NothingToUndo", "NothingToRedo"),
+    "ratios": ("ratio_of", "ratio_text"),
+    "fields": ("is_prime", "rank_of", "echelon", "solved"),
+}
+
+
+def texts():
+    """The name and the text of each file of the package."""
+    for name in sorted(os.listdir(PACKAGE)):
+        if name.endswith(".py"):
+            with open(os.path.join(PACKAGE, name), encoding="utf-8") as file:
+                yield name, file.read()
+
+
+class InterfaceTest(unittest.TestCase):
+    def test_each_name_is_defined_in_its_module(self):
+        for module, names in INTERFACE.items():
+            where = importlib.import_module("anymend." + module)
+            for name in names:
+                self.assertEqual(getattr(where, name).__module__, "anymend." + module, name)
+                self.assertEqual(getattr(where, name).__name__, name)
+
+
+class FilesTest(unittest.TestCase):
+    def test_only_python_files(self):
+        for name in os.listdir(PACKAGE):
+            self.assertTrue(name.endswith(".py") or name == "__pycache__", name)
+
+    def test_sizes(self):
+        for name, text in texts():
+            lines = text.splitlines()
+            self.assertLess(len(lines), 400, name)
+            for number, line in enumerate(lines, 1):
+                self.assertLessEqual(len(line), 120, (name, number))
+            for node in ast.walk(ast.parse(text)):
+                if isinstance(node, ast.FunctionDef):
+                    self.assertLessEqual(node.end_lineno - node.lineno + 1, 40, (name, node.name))
+
+    def test_characters(self):
+        for name, text in texts():
+            for character in text:
+                self.assertTrue(character == "\n" or " " <= character <= "~", (name, character))
+
+
+if __name__ == "__main__":
+    unittest.main()
