@@ -2,6 +2,7 @@
 
 import ast
 import importlib
+import inspect
 import os
 import unittest
 
@@ -14,6 +15,24 @@ INTERFACE = {
         "NotKept", "NothingToUndo", "NothingToRedo"),
     "ratios": ("ratio_of", "ratio_text"),
     "fields": ("is_prime", "rank_of", "echelon", "solved"),
+    "stores": ("Store", "Mend", "written"),
+    "demands": ("Way", "way", "demand", "demands", "greatest_file", "lasts", "Bar", "bar"),
+    "histories": ("Net", "Flow", "flow_to", "cut_price"),
+    "states": ("State", "ranks", "gets", "Standing", "standing"),
+}
+
+METHODS = {
+    ("stores", "Store"): ("is_new", "mend_of"),
+    ("states", "State"): ("rank_of",),
+}
+
+# The names of the arguments that may be left out or passed by name.
+LEFT_OUT = {
+    ("demands", "way"): ("store", "lot", "reader", "mends"),
+    ("demands", "demand"): ("store", "lot", "mends"),
+    ("demands", "demands"): ("store", "mends"),
+    ("demands", "greatest_file"): ("store", "mends"),
+    ("demands", "bar"): ("store", "mends"),
 }
 
 
@@ -32,6 +51,18 @@ class InterfaceTest(unittest.TestCase):
             for name in names:
                 self.assertEqual(getattr(where, name).__module__, "anymend." + module, name)
                 self.assertEqual(getattr(where, name).__name__, name)
+
+    def test_each_method_is_defined_in_its_class(self):
+        for (module, name), methods in METHODS.items():
+            where = getattr(importlib.import_module("anymend." + module), name)
+            for method in methods:
+                self.assertIn(method, vars(where), (name, method))
+
+    def test_arguments_that_may_be_left_out(self):
+        for (module, name), arguments in LEFT_OUT.items():
+            where = inspect.signature(getattr(importlib.import_module("anymend." + module), name))
+            self.assertEqual(tuple(where.parameters), arguments)
+            self.assertIsNone(where.parameters["mends"].default)
 
 
 class FilesTest(unittest.TestCase):
