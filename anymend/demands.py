@@ -90,20 +90,30 @@ def lasts(store):
 def bar(store, mends=None):
     """A shortest history with a cut below the file, None if the store lasts so many mends."""
     check_mends(mends)
+    return bar_within(store, mends)
+
+
+def bar_within(store, mends):
+    """What bar returns, for a number of mends that is known to be right."""
     steps = Steps(store)
-    layers = layers_of(steps, least_end_prices(store), mends)
+    return short_bar(store, steps, layers_of(steps, least_end_prices(store), mends))
+
+
+def short_bar(store, steps, layers):
+    """The Bar of a least cut of as few mends as bring it below the file, or None."""
     for many, prices in enumerate(layers):
-        total = least_cut(store, prices)
-        if total < store.file:
-            starts = [lot for lot in range(many_lots(store)) if cut_from(store, prices, lot) == total]
-            return bar_from(store, steps, layers[:many + 1], starts[0])
+        if least_cut(store, prices) < store.file:
+            return least_bar(store, steps, layers[:many + 1])
     return None
 
 
-def bar_from(store, steps, layers, lot):
-    """The Bar of a least cut from a lot on."""
-    row, end = row_down(steps, layers, lot)
-    readers = [reader for reader in range(len(store.readers)) if end_price(store, reader, end) == layers[0][end]]
+def least_bar(store, steps, layers):
+    """The Bar of a least cut of as many mends as there are layers behind the first one."""
+    total = least_cut(store, layers[-1])
+    starts = [lot for lot in range(many_lots(store)) if cut_from(store, layers[-1], lot) == total]
+    row, end = row_down(steps, layers, starts[0])
+    behind = end % steps.many
+    readers = [reader for reader in range(len(store.readers)) if end_price(store, reader, behind) == layers[0][end]]
     history = tuple(label for label, _ in row)
     taken = tuple(named_lot(store, brought) for _, brought in row)
-    return Bar(history, readers[0], named_lot(store, lot), taken, cut_from(store, layers[-1], lot))
+    return Bar(history, readers[0], named_lot(store, starts[0]), taken, total)

@@ -13,11 +13,17 @@ def extended(basis, rows, prime):
     for row in rows:
         if len(found) == len(row):
             break
-        rest = rest_of(found, row, prime)
-        column = first_column(rest)
-        if column is not None:
-            found.append((column, scaled(rest, column, prime)))
+        pivot = pivot_of(found, row, prime)
+        if pivot is not None:
+            found.append(pivot)
     return found
+
+
+def pivot_of(basis, row, prime):
+    """The pair that a row adds to a basis, None if the row is in its span."""
+    rest = rest_of(basis, row, prime)
+    column = first_column(rest)
+    return None if column is None else (column, scaled(rest, column, prime))
 
 
 def rest_of(basis, row, prime):

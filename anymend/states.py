@@ -52,15 +52,20 @@ def is_row_of(store, row):
     return are_integers(row) and len(row) == store.file
 
 
-def ranks_by_number(state):
-    """The ranks of all lots, at their numbers."""
+def bases_by_number(state):
+    """Bases of what all lots hold, at their numbers."""
     # Of what a node holds, a basis is enough for all of its lots.
     held = [[row for _, row in extended([], rows, state.prime)] for rows in state.rows]
     bases = [[]]
     for lot in range(1, many_lots(state.store)):
         last = lot.bit_length() - 1
         bases.append(extended(bases[lot - (1 << last)], held[last], state.prime))
-    return [len(basis) for basis in bases]
+    return bases
+
+
+def ranks_by_number(state):
+    """The ranks of all lots, at their numbers."""
+    return [len(basis) for basis in bases_by_number(state)]
 
 
 def ranks(state):

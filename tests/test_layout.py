@@ -19,6 +19,10 @@ INTERFACE = {
     "demands": ("Way", "way", "demand", "demands", "greatest_file", "lasts", "Bar", "bar"),
     "histories": ("Net", "Flow", "flow_to", "cut_price"),
     "states": ("State", "ranks", "gets", "Standing", "standing"),
+    "menders": ("field_bound", "first_state", "Mended", "mended", "after", "best_rank"),
+    "numbers": ("Row", "places", "least_row", "least_room", "least_amount", "least_swap", "tight", "row_without"),
+    "trades": ("Trade", "Never", "trade", "form_of", "least_at"),
+    "plans": ("Plan", "cheapest", "least_with", "total_with"),
 }
 
 METHODS = {
@@ -33,6 +37,12 @@ LEFT_OUT = {
     ("demands", "demands"): ("store", "mends"),
     ("demands", "greatest_file"): ("store", "mends"),
     ("demands", "bar"): ("store", "mends"),
+    ("numbers", "least_row"): ("store", "mends"),
+    ("numbers", "least_room"): ("store", "node", "mends"),
+    ("numbers", "least_amount"): ("store", "label", "node", "helper", "mends"),
+    ("numbers", "least_swap"): ("store", "label", "mends"),
+    ("numbers", "tight"): ("store", "mends"),
+    ("numbers", "row_without"): ("store", "place", "mends"),
 }
 
 

@@ -58,37 +58,6 @@ def rank(rows, prime, many):
     return found
 
 
-def eliminated(rows, prime):
-    """The rank of some rows, for great primes."""
-    rows, found = [list(row) for row in rows], 0
-    for column in range(len(rows[0]) if rows else 0):
-        at = next((k for k in range(found, len(rows)) if rows[k][column] % prime), None)
-        if at is None:
-            continue
-        rows[found], rows[at] = rows[at], rows[found]
-        inverse = pow(rows[found][column], -1, prime)
-        for k in range(found + 1, len(rows)):
-            factor = rows[k][column] * inverse % prime
-            if factor:
-                rows[k] = [(a - factor * b) % prime for a, b in zip(rows[k], rows[found])]
-        found += 1
-    return found
-
-
-def of_lot(state, lot):
-    """All rows of the nodes of a lot."""
-    return [row for name, held in zip(state.store.nodes, state.rows) if name in lot for row in held]
-
-
-def random_state(chance, store, prime, full=0.5):
-    """A state with rows by chance, some nodes being as full as their rooms."""
-    rows = []
-    for room in store.rooms:
-        many = room if chance.random() < full else chance.randint(0, room)
-        rows.append([[chance.randrange(-prime, 2 * prime) for _ in range(store.file)] for _ in range(many)])
-    return State(store, prime, rows)
-
-
 class Case(unittest.TestCase):
     def refused(self, error, fields, function, *arguments):
         with self.assertRaises(error) as caught:
@@ -188,11 +157,11 @@ class RankTest(Case):
         for _ in range(150):
             text = plain.random_text(chance, chance.randint(2, 4), 1, 1, 3, chance.randint(1, 4))
             store, prime = Store(text), chance.choice((2, 2, 3, 5))
-            state = random_state(chance, store, prime)
+            state = plain.random_state(chance, store, prime)
             found = ranks(state)
             self.assertEqual([lot for lot, _ in found], plain.lots(store))
             for lot, number in found:
-                self.assertEqual(number, rank(of_lot(state, lot), prime, store.file))
+                self.assertEqual(number, rank(plain.of_lot(state, lot), prime, store.file))
                 self.assertEqual(state.rank_of(lot), number)
 
     def test_many_rows(self):
@@ -209,7 +178,7 @@ class RankTest(Case):
             state = State(store, prime, rows)
             found = dict(ranks(state))
             for lot in chance.sample(plain.lots(store), 12) + [tuple(names)]:
-                self.assertEqual(found[lot], eliminated(of_lot(state, lot), prime))
+                self.assertEqual(found[lot], plain.rank(plain.of_lot(state, lot), prime))
                 self.assertEqual(found[lot], state.rank_of(lot))
 
     def test_errors(self):
@@ -243,11 +212,11 @@ class GetsTest(Case):
         for _ in range(400):
             store = Store(plain.random_text(chance, chance.randint(2, 4), 1, 2, 3, chance.randint(1, 3)))
             prime = chance.choice((2, 3, 7))
-            state = random_state(chance, store, prime, 0.9)
+            state = plain.random_state(chance, store, prime, 0.9)
             for reader in (0, 1):
                 names = [name for name, _ in store.readers[reader]]
                 enough = all(
-                    rank(of_lot(state, lot), prime, store.file) + plain.limits(store, reader, lot) >= store.file
+                    rank(plain.of_lot(state, lot), prime, store.file) + plain.limits(store, reader, lot) >= store.file
                     for lot in plain.lots(store)
                     if set(lot) <= set(names) and plain.limits(store, reader, lot) is not None)
                 self.assertIs(gets(state, reader), enough, store.text)
@@ -267,7 +236,7 @@ class StandingTest(Case):
         self.assertIsInstance(found, Standing)
         enough = plain.enough(store)
         tables = [plain.ways_by_mends(store, reader, enough) for reader in range(len(store.readers))]
-        held = {lot: eliminated(of_lot(state, lot), state.prime) for lot in plain.lots(store)}
+        held = {lot: plain.rank(plain.of_lot(state, lot), state.prime) for lot in plain.lots(store)}
         below = []
         for mends in range(enough + 1):
             needed = {
@@ -322,7 +291,7 @@ class StandingTest(Case):
         for _ in range(500):
             text = plain.random_text(
                 chance, chance.randint(2, 4), chance.randint(0, 4), chance.randint(1, 2), 3, chance.randint(1, 3))
-            found = self.check(random_state(chance, Store(text), chance.choice((2, 7, 101)), 0.95))
+            found = self.check(plain.random_state(chance, Store(text), chance.choice((2, 7, 101)), 0.95))
             kinds[found] = kinds.get(found, 0) + 1
         self.assertTrue({None, -1, 0, 1} <= set(kinds), kinds)
 
@@ -338,7 +307,7 @@ class StandingTest(Case):
         chance = random.Random(32)
         store = Store(plain.greatest_text(chance, 8, 40, 40, 9))
         for prime in (2, LARGEST):
-            self.check(random_state(chance, store, prime, 1))
+            self.check(plain.random_state(chance, store, prime, 1))
 
     def test_classes(self):
         self.assertEqual(
@@ -350,7 +319,7 @@ class SameTest(Case):
         chance = random.Random(33)
         for _ in range(40):
             store = Store(plain.random_text(chance, 4, 3, 2))
-            state = random_state(chance, store, 3)
+            state = plain.random_state(chance, store, 3)
             before = copy.copy(vars(state)), copy.copy(vars(store))
             self.assertEqual(vars(standing(state)), vars(standing(state)))
             self.assertEqual(ranks(state), ranks(state))
