@@ -23,11 +23,20 @@ INTERFACE = {
     "numbers": ("Row", "places", "least_row", "least_room", "least_amount", "least_swap", "tight", "row_without"),
     "trades": ("Trade", "Never", "trade", "form_of", "least_at"),
     "plans": ("Plan", "cheapest", "least_with", "total_with"),
+    "turns": ("Turns", "demand_by", "demands_by", "lasts_by", "bar_by", "Short", "standing_by"),
+    "liars": ("Fooled", "stands", "Found", "Unclear", "found_among"),
+    "runs": ("House", "again"),
+    "desk": ("Desk",),
 }
 
 METHODS = {
     ("stores", "Store"): ("is_new", "mend_of"),
     ("states", "State"): ("rank_of",),
+    ("turns", "Turns"): ("after",),
+    ("runs", "House"): ("present", "shown", "mend", "read", "change", "past"),
+    ("desk", "Desk"): (
+        "put", "edit", "drop", "rename", "keep", "release", "attempt", "trial", "undo", "redo", "lines", "item_names",
+        "promises", "get_store", "get_turns", "holds", "broken"),
 }
 
 # The names of the arguments that may be left out or passed by name.
@@ -43,6 +52,11 @@ LEFT_OUT = {
     ("numbers", "least_swap"): ("store", "label", "mends"),
     ("numbers", "tight"): ("store", "mends"),
     ("numbers", "row_without"): ("store", "place", "mends"),
+    ("turns", "demand_by"): ("turns", "state", "lot", "mends"),
+    ("turns", "demands_by"): ("turns", "state", "mends"),
+    ("turns", "bar_by"): ("turns", "mends"),
+    ("turns", "standing_by"): ("turns", "state", "held", "mends"),
+    ("liars", "stands"): ("store", "reader", "missing", "liars", "mends"),
 }
 
 
@@ -73,6 +87,8 @@ class InterfaceTest(unittest.TestCase):
             where = inspect.signature(getattr(importlib.import_module("anymend." + module), name))
             self.assertEqual(tuple(where.parameters), arguments)
             self.assertIsNone(where.parameters["mends"].default)
+        desk = inspect.signature(importlib.import_module("anymend.desk").Desk)
+        self.assertEqual([(name, what.default) for name, what in desk.parameters.items()], [("text", "")])
 
 
 class FilesTest(unittest.TestCase):
