@@ -81,7 +81,12 @@ def greatest_file(store, mends=None):
 
 def lasts(store):
     """The greatest number of mends that a store lasts, None if it lasts for ever."""
-    for mends, prices in enumerate(all_layers(store, None)):
+    return lasts_in(store, all_layers(store, None))
+
+
+def lasts_in(store, layers):
+    """What lasts returns, by the least prices within each number of mends."""
+    for mends, prices in enumerate(layers):
         if least_cut(store, prices) < store.file:
             return mends - 1
     return None

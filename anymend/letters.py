@@ -4,10 +4,44 @@ A letter is chosen in the span of its source, outside of each other span
 that does not hold the whole source yet: so all of these grow by it. Its
 multiples of a basis of the source are 1, t, t * t, .. for one t, and each
 span bars fewer t than the source has dimensions. So below a prime above
-the bound some t is left.
+the bound some t is always left.
 """
 
 from anymend.spans import extended, pivot_of
+
+
+class Spans:
+    """Bases of spans, and the numbers of those that are not known to hold the source."""
+
+    def __init__(self, bases, source, prime):
+        self.bases = list(bases)
+        self.source = source
+        self.prime = prime
+        self.growing = [k for k in range(len(self.bases)) if not self.is_whole(k)]
+
+    def take(self, letter):
+        """Let all spans that do not hold the source grow by a letter; False if it is in one of them."""
+        pivots = {}
+        for k in list(self.growing):
+            pivot = pivot_of(self.bases[k], letter, self.prime)
+            if pivot is not None:
+                pivots[k] = pivot
+            elif self.holds_source(k):
+                self.growing.remove(k)
+            else:
+                return False
+        for k, pivot in pivots.items():
+            self.bases[k] = self.bases[k] + [pivot]
+        self.growing = [k for k in self.growing if not self.is_whole(k)]
+        return len(pivots) > 0
+
+    def is_whole(self, k):
+        """Whether a span holds all letters that there are."""
+        return len(self.bases[k]) == len(self.source[0])
+
+    def holds_source(self, k):
+        """Whether a span holds the source."""
+        return all(pivot_of(self.bases[k], row, self.prime) is None for row in self.source)
 
 
 def drawn(bases, source, most, prime):
@@ -16,34 +50,17 @@ def drawn(bases, source, most, prime):
     No more letters are chosen than are needed until all bases hold the source.
     """
     own = [row for _, row in extended([], source, prime)]
-    goals = [len(extended(basis, own, prime)) for basis in bases]
-    found = list(bases)
     letters = []
+    if len(own) == 0:
+        return letters, bases
+    spans = Spans(bases, own, prime)
     t = 0
-    growing = growing_ones(found, goals)
-    while len(letters) < most and len(growing) > 0:
-        t, letter, pivots = letter_outside([found[k] for k in growing], own, t, prime)
-        letters.append(letter)
-        for k, pivot in zip(growing, pivots):
-            found[k] = found[k] + [pivot]
-        growing = growing_ones(found, goals)
-    return letters, found
-
-
-def growing_ones(bases, goals):
-    """The numbers of the bases that have fewer rows than their goals."""
-    return [k for k, goal in enumerate(goals) if len(bases[k]) < goal]
-
-
-def letter_outside(bases, own, start, prime):
-    """The first t from a start on whose letter is outside of all spans, this letter, and how it extends their bases."""
-    for number in range(start, start + prime):
-        t = number % prime
-        letter = mixed(own, t, prime)
-        pivots = pivots_outside(bases, letter, prime)
-        if pivots is not None:
-            break
-    return t, letter, pivots
+    while len(letters) < most and len(spans.growing) > 0:
+        letter = mixed(own, t % prime, prime)
+        if spans.take(letter):
+            letters.append(letter)
+        t += 1
+    return letters, spans.bases
 
 
 def mixed(rows, t, prime):
@@ -52,14 +69,3 @@ def mixed(rows, t, prime):
     for row in reversed(rows[:-1]):
         total = [(number * t + other) % prime for number, other in zip(total, row)]
     return total
-
-
-def pivots_outside(bases, letter, prime):
-    """What a letter adds to each basis, None if it is in the span of one of them."""
-    pivots = []
-    for basis in bases:
-        pivot = pivot_of(basis, letter, prime)
-        if pivot is None:
-            return None
-        pivots.append(pivot)
-    return pivots

@@ -1,6 +1,6 @@
 """Machines of histories: which mends may follow, and what each lot must hold in each state."""
 
-from anymend.demands import demand_at, least_cut, short_bar
+from anymend.demands import demand_at, lasts_in, short_bar
 from anymend.errors import BadName, BadText, NoName
 from anymend.lots import check_lot, check_mends, many_lots, named_lot, numbered_lot
 from anymend.states import ranks_by_number
@@ -131,16 +131,14 @@ def demands_by(turns, state, mends=None):
 
 def lasts_by(turns):
     """The greatest number of mends that a store lasts with a machine, None if it lasts for ever."""
-    for mends, prices in enumerate(layers_by(turns, None)):
-        if least_cut(turns.store, prices) < turns.store.file:
-            return mends - 1
-    return None
+    return lasts_in(turns.store, layers_by(turns, None))
 
 
 def bar_by(turns, mends=None):
     """A shortest history that is let with a cut below the file, None if the store lasts so many mends."""
     check_mends(mends)
-    return short_bar(turns.store, steps_by(turns), layers_by(turns, mends))
+    steps = steps_by(turns)
+    return short_bar(turns.store, steps, layers_of(steps, least_end_prices(turns.store), mends))
 
 
 def standing_by(turns, state, held, mends=None):

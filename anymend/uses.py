@@ -1,9 +1,7 @@
 """Which places a row of steps uses, where it goes the cheapest ways by some numbers."""
 
+from anymend.moves import COLLECTED
 from anymend.stores import links_of
-
-# Which of the two nodes of a pair are collected: none, one or both.
-COLLECTED = ((False, False), (True, False), (False, True), (True, True))
 
 
 def used_places(store, numbers, lot, steps, reader):
