@@ -1,8 +1,7 @@
 """The mender: which letters are sent and kept, so that all lots have their best ranks."""
 
-from anymend.errors import BadName, TooSmall
+from anymend.errors import TooSmall
 from anymend.fields import check_prime
-from anymend.kinds import is_list
 from anymend.letters import drawn
 from anymend.lots import check_lot, numbered_lot
 from anymend.moves import Move, step_price
@@ -120,8 +119,6 @@ def room_of(store, name):
 
 def after(state, history):
     """The state after a history."""
-    if not is_list(history):
-        raise BadName(history)
     for label in history:
         # BadName or NoName, if it is no label.
         state.store.mend_of(label)

@@ -71,7 +71,7 @@ def least_amount(store, label, node, helper, mends=None):
 
 def least_swap(store, label, mends=None):
     """The least swap of a pair that is enough, None if none is."""
-    check_names((label,))
+    # BadName or NoName, if it is no label.
     if store.mend_of(label).kind != "pair":
         raise NoName(label)
     check_mends(mends)

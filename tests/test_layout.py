@@ -1,9 +1,11 @@
 """The interface, and the plainest rules for the files of the package."""
 
 import ast
+import builtins
 import importlib
 import inspect
 import os
+import re
 import unittest
 
 HERE = os.path.dirname(os.path.abspath(__file__))
@@ -105,6 +107,45 @@ class FilesTest(unittest.TestCase):
             for node in ast.walk(ast.parse(text)):
                 if isinstance(node, ast.FunctionDef):
                     self.assertLessEqual(node.end_lineno - node.lineno + 1, 40, (name, node.name))
+
+    def test_imports(self):
+        imports = {}
+        for name, text in texts():
+            found = [node for node in ast.walk(ast.parse(text)) if isinstance(node, (ast.Import, ast.ImportFrom))]
+            for node in found:
+                self.assertIsInstance(node, ast.ImportFrom, name)
+                self.assertTrue(node.module.startswith("anymend.") or node.module in ("math", "itertools"), name)
+                for what in node.names:
+                    # Imported out of the file that defines it, and used.
+                    where = importlib.import_module(node.module)
+                    self.assertIn(getattr(getattr(where, what.name), "__module__", node.module), (node.module, None))
+                    self.assertEqual(len(re.findall(rf"\b{what.name}\b", text)) > 1, True, (name, what.name))
+            imports[name[:-3]] = {node.module.split(".")[-1] for node in found}
+        for name in imports:
+            seen, ahead = set(), [name]
+            while ahead:
+                further = imports.get(ahead.pop(), set()) - seen
+                seen |= further
+                ahead += further
+            self.assertNotIn(name, seen)
+
+    def test_names(self):
+        for name, text in texts():
+            tree = ast.parse(text)
+            barred = set(dir(builtins)) | {node.name for node in tree.body if isinstance(node, ast.ClassDef)} | {
+                what.name for node in tree.body if isinstance(node, ast.ImportFrom) for what in node.names}
+            for node in ast.walk(tree):
+                if isinstance(node, (ast.FunctionDef, ast.Lambda)):
+                    local = {what.arg for what in node.args.args}
+                    local |= {what.id for what in ast.walk(node) if isinstance(what, ast.Name) and isinstance(what.ctx, ast.Store)}
+                    self.assertFalse(local & barred, (name, node.lineno))
+                if isinstance(node, ast.ClassDef):
+                    methods = {what.name for what in node.body if isinstance(what, ast.FunctionDef)}
+                    stored = {
+                        what.attr for what in ast.walk(node)
+                        if isinstance(what, ast.Attribute) and isinstance(what.ctx, ast.Store)}
+                    self.assertFalse(methods & stored, (name, node.name))
+                self.assertNotIsInstance(node, (ast.Div, ast.Yield, ast.Global, ast.AsyncFunctionDef), name)
 
     def test_characters(self):
         for name, text in texts():
